@@ -1,0 +1,1 @@
+"""Onebell: letters that all hands hand over in one order."""
