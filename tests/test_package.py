@@ -37,6 +37,26 @@ LISTED = {
         "Twice", "NotOpen", "BadMark", "NoNote",
     ],
     "marks": ["less", "greatest"],
+    "desk": ["Desk"],
+    "house": ["House"],
+    "notes": ["shown", "read"],
+}
+
+# Of each class its methods, and of each method or function its arguments.
+METHODS = {
+    ("desk", "Desk"): {
+        "__init__": ["hand"], "propose": ["letter"], "settle": ["letter", "mark"],
+        "waiting": [], "handed": [], "clock": [],
+    },
+    ("house", "House"): {
+        "__init__": ["many"], "send": ["hand", "text"], "mails": [], "bring": ["place"],
+        "rest": [], "letters": [], "sender": ["letter"], "text": ["letter"], "mark": ["letter"],
+        "handed": ["hand"], "clock": ["hand"],
+    },
+}
+FUNCTIONS = {
+    ("marks", "less"): ["one", "other"], ("marks", "greatest"): ["marks"],
+    ("notes", "shown"): ["mail"], ("notes", "read"): ["text"],
 }
 
 
@@ -82,6 +102,26 @@ class Package(unittest.TestCase):
             for name in names:
                 with self.subTest(file=stem, name=name):
                     self.assertEqual(found.count(name), 1)
+
+    def test_each_listed_method_is_defined_in_its_class_with_its_arguments(self):
+        for (stem, name), methods in METHODS.items():
+            body = self.found(stem, name).body
+            told = {node.name: self.arguments(node) for node in body if isinstance(node, ast.FunctionDef)}
+            for method, arguments in methods.items():
+                with self.subTest(file=stem, method=method):
+                    self.assertEqual(told.get(method), ["self"] + arguments)
+
+    def test_each_listed_function_has_its_arguments(self):
+        for (stem, name), arguments in FUNCTIONS.items():
+            with self.subTest(file=stem, name=name):
+                self.assertEqual(self.arguments(self.found(stem, name)), arguments)
+
+    def found(self, stem, name):
+        body = ast.parse((FOLDER / f"{stem}.py").read_text("ascii")).body
+        return [node for node in body if getattr(node, "name", None) == name][0]
+
+    def arguments(self, node):
+        return [argument.arg for argument in node.args.args]
 
 
 if __name__ == "__main__":
